@@ -238,9 +238,6 @@ func TestCalendar(t *testing.T) {
 	for year := 1; year <= 9999; year++ {
 		for month := 1; month <= 12; month++ {
 			last := lastDay(year, month)
-			if month != 2 && year%97 > 0 {
-				continue
-			}
 			for day := 28; day <= 32; day++ {
 				s := digits(year, 4) + "-" + digits(month, 2) + "-" + digits(day, 2)
 				m, e := time.Parse(date, s)
